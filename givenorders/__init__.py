@@ -1,0 +1,1 @@
+"""Orders given at once: every outcome that the rules allow."""
