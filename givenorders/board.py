@@ -2,8 +2,15 @@
 
 LAND = 0
 SEA = 1
+COAST = 2
+
+SHORES = 4
 
 HOLD = 6
+MOVE = 7
+STAY = 8
+AID = 9
+CARRY = 10
 
 
 class Unit:

@@ -4,7 +4,10 @@ from givenorders.board import Board
 from givenorders.setting import answer
 from givenorders.table import answers
 
-NAMES = ("clear", "province", "land", "sea", "unit", "gone", "hold", "move", "stay", "aid", "carry")
+NAMES = (
+    "clear", "province", "land", "sea", "unit", "gone", "hold", "move", "stay", "aid", "carry",
+    "moves", "check", "outcomes", "outcome", "sure", "kinds", "ends", "join", "behind", "rings",
+)
 
 LAND, SEA, COAST = 0, 1, 2
 ARMY, FLEET = 0, 1
@@ -49,6 +52,44 @@ def last(*calls):
 
 def provinces(*kinds):
     return [("province", kind) for kind in kinds]
+
+
+def lands(count, *pairs):
+    """So many provinces of land, and the links between them."""
+    return [*provinces(*[LAND] * count), *[("land", p, q) for p, q in pairs]]
+
+
+def armies(*powers):
+    """An army in each province from 0 on, of these powers; none where it is None."""
+    return [("unit", power, ARMY, p, 0) for p, power in enumerate(powers) if power is not None]
+
+
+def moves(*pairs):
+    return [("move", p, q, 0, 0) for p, q in pairs]
+
+
+def going(row):
+    """The moves that go and the ways, of a row that outcome answers."""
+    count = row[1]
+    told, ways = row[2:2 + count], row[3 + count:]
+    if row[0] != 0 or len(told) != count or row[2 + count] != len(ways):
+        raise AssertionError(f"no row of outcome: {row!r}")
+    return told, ways
+
+
+def found(*calls):
+    """All outcomes behind the calls: for each the moves that go and the ways."""
+    count = last(*calls, ("outcomes",))[1]
+    given = rows(*calls, *[("outcome", i) for i in range(count)])
+    return [going(row) for row in given[len(calls):]]
+
+
+def that_go(*calls):
+    """The moves that go in the one outcome that there must be."""
+    outcomes = found(*calls)
+    if len(outcomes) != 1:
+        raise AssertionError(f"not one outcome: {outcomes!r}")
+    return outcomes[0][0]
 
 
 def kept(board):

@@ -96,6 +96,68 @@ class Language(unittest.TestCase):
                 if isinstance(node, ast.Constant):
                     self.assertIsInstance(node.value, (int, str, bool, None.__class__))
 
+    def test_comprehensions_and_powers(self):
+        for path, text, tree in self.each():
+            for node in ast.walk(tree):
+                if isinstance(node, ast.ListComp):
+                    self.assertEqual(len(node.generators), 1)
+                    self.assertLessEqual(len(node.generators[0].ifs), 1)
+                if isinstance(node, ast.BinOp) and isinstance(node.op, ast.Pow):
+                    self.assertIsInstance(node.right, ast.Constant)
+                if isinstance(node, ast.Compare) and any(isinstance(op, (ast.Is, ast.IsNot)) for op in node.ops):
+                    self.assertTrue(all(isinstance(side, ast.Constant) for side in node.comparators))
+
+    def test_sets_are_used_on_the_spot(self):
+        for path, text, tree in self.each():
+            parents = {child: node for node in ast.walk(tree) for child in ast.iter_child_nodes(node)}
+            for node in ast.walk(tree):
+                self.assertNotIsInstance(node, ast.Set)
+                if isinstance(node, ast.Call) and isinstance(node.func, ast.Name) and node.func.id == "set":
+                    above = parents[node]
+                    while isinstance(above, ast.BinOp):
+                        above = parents[above]
+                    within = isinstance(above, ast.Call) and isinstance(above.func, ast.Name)
+                    self.assertTrue(isinstance(above, ast.Compare) or (within and above.func.id in ("sorted", "len")))
+
+    def test_imports_are_from_the_file_that_defines(self):
+        drawn, tops = {}, {}
+        for path, text, tree in self.each():
+            name = "givenorders." + path.stem
+            tops[name] = [node.name for node in tree.body if isinstance(node, (ast.FunctionDef, ast.ClassDef))]
+            tops[name] += [node.targets[0].id for node in tree.body if isinstance(node, ast.Assign)]
+            self.assertEqual(len(tops[name]), len(set(tops[name])))
+            drawn[name] = [(node.module, alias) for node in tree.body if isinstance(node, ast.ImportFrom)
+                           for alias in node.names]
+        for name, rows in drawn.items():
+            for module, alias in rows:
+                self.assertIn(alias.name, tops[module])
+        seen = {}
+        while len(seen) < len(drawn):
+            ready = [name for name, rows in drawn.items() if name not in seen and all(m in seen for m, alias in rows)]
+            self.assertTrue(ready, "files draw from one another")
+            seen.update(dict.fromkeys(ready))
+
+    def test_imports_are_used_and_not_hidden(self):
+        for path, text, tree in self.each():
+            taken = [alias.name for node in tree.body if isinstance(node, ast.ImportFrom) for alias in node.names]
+            used = {node.id for node in ast.walk(tree) if isinstance(node, ast.Name) and isinstance(node.ctx, ast.Load)}
+            self.assertLessEqual(set(taken), used, path)
+            bound = names_bound(tree)
+            for name in taken + [node.name for node in tree.body if isinstance(node, ast.ClassDef)]:
+                self.assertEqual(bound.count(name), 1, name)
+
+    def test_methods_and_values_apart(self):
+        methods, kept = set(), set()
+        for path, text, tree in self.each():
+            for node in ast.walk(tree):
+                if isinstance(node, ast.ClassDef):
+                    methods |= {part.name for part in node.body if isinstance(part, ast.FunctionDef)}
+                if isinstance(node, ast.Attribute) and isinstance(node.ctx, ast.Store):
+                    kept.add(node.attr)
+        self.assertEqual(methods & kept, set())
+        for kind in (str, int, list, dict, set, tuple, bytes):
+            self.assertEqual(kept & set(dir(kind)) - {"count", "index", "title", "find", "get", "join", "copy"}, set())
+
     def test_names(self):
         python_names = set(dir(__builtins__) if not isinstance(__builtins__, dict) else __builtins__)
         for path, text, tree in self.each():
